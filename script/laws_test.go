@@ -464,6 +464,10 @@ func TestOneNodeAnEpoch(t *testing.T) {
 			e := scriptByLot(lot, 1)[lot.Intn(5)]
 			if lot.Intn(5) == 0 {
 				e = says(lot.Intn(4), []string{"promote 0", "promote 1", "force 0", "force 1"}[lot.Intn(4)])
+				// Some of them fall by their label's write, or its flush.
+				if lot.Intn(6) == 0 {
+					p.Do(api.Entry{Kind: api.EntFuse, Place: e.Place, Node: lot.Intn(2), N: lot.Intn(2)})
+				}
 			}
 			up := p.Cell(e.Place).Node(1-desks[max(0, min(3, e.Place))].Primary) != nil
 			l := p.Do(e)
@@ -507,7 +511,7 @@ func TestOneNodeAnEpoch(t *testing.T) {
 			}
 		}
 	}
-	if turns < 500 || refused < 100 || fallen < 20 {
+	if turns < 500 || refused < 50 || fallen < 100 {
 		t.Errorf("%d turns, %d refused, %d fallen", turns, refused, fallen)
 	}
 }
